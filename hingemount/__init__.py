@@ -1,0 +1,1 @@
+"""Hingemount: stamps by sets, whole or hinged, true or false."""

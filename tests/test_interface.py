@@ -1,0 +1,49 @@
+import inspect
+import unittest
+
+from hingemount import albums, errors, lists
+
+FUNCTIONS = (
+    (lists, "is_list", "(thing)"),
+    (lists, "is_stamp", "(book, thing)"),
+    (lists, "all_stamps", "(book)"),
+    (lists, "places_many", "(book)"),
+    (albums, "Album", "(book, name='', stamps=None)"),
+    (albums, "joined", "(one, other)"),
+    (albums, "parted", "(album, places)"),
+    (albums, "parting", "(one, other)"),
+    (errors, "Short", "(by)"),
+)
+
+METHODS = (
+    ("put", "(self, stamp, many=1)"),
+    ("take", "(self, stamp, many=1)"),
+    ("book", "(self)"),
+    ("called", "(self)"),
+    ("count_of", "(self, stamp)"),
+    ("all_of", "(self)"),
+    ("doubles", "(self)"),
+    ("gaps", "(self, place)"),
+    ("whole_sets", "(self)"),
+    ("twin", "(self)"),
+)
+
+
+class Interface(unittest.TestCase):
+    """Point 4, and the interface: names and order of arguments, and where each thing stands."""
+
+    def test_functions_and_classes(self):
+        for module, name, arguments in FUNCTIONS:
+            thing = getattr(module, name)
+            self.assertEqual(str(inspect.signature(thing)), arguments, name)
+            self.assertEqual(thing.__module__, module.__name__, name)
+
+    def test_methods_stand_in_the_class_itself(self):
+        for name, arguments in METHODS:
+            self.assertEqual(str(inspect.signature(vars(albums.Album)[name])), arguments, name)
+        for name in ("__init__", "__len__", "__eq__", "__repr__", "__str__"):
+            self.assertIn(name, vars(albums.Album))
+
+
+if __name__ == "__main__":
+    unittest.main()
