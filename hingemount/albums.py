@@ -1,20 +1,13 @@
 """Albums: how many of each stamp of a list there are."""
 
 from hingemount.errors import NoList, NoName, NoNumber, NoSet, NoSets, NoStamp, NoStamps, Short
-from hingemount.kinds import is_letters, is_rising, is_whole_from
+from hingemount.kinds import is_letters, is_rising_within, is_whole_from
 from hingemount.lists import HINGED, WHOLE, all_stamps, is_list, is_set_number, is_stamp
 from hingemount.writing import album_rows, in_figures
 
 
 def is_stamps(book, thing):
     return isinstance(thing, tuple) and all([is_stamp(book, part) for part in thing])
-
-
-def is_set_numbers(book, thing):
-    """Tell whether a thing is a rising tuple of numbers of sets."""
-    if not isinstance(thing, tuple) or not all([is_set_number(book, part) for part in thing]):
-        return False
-    return is_rising(thing)
 
 
 class Album:
@@ -130,7 +123,7 @@ def joined(one, other):
 
 def parted(album, places):
     """Tell an album of these sets' stamps, and one of all others."""
-    if not is_set_numbers(album.book(), places):
+    if not is_rising_within(places, 0, len(album.book()) - 1):
         raise NoSets("no rising tuple of numbers of sets")
     inside = [(stamp, many) for stamp, many in album.all_of() if stamp[0] in places]
     outside = [(stamp, many) for stamp, many in album.all_of() if stamp[0] not in places]
@@ -141,3 +134,8 @@ def parting(one, other):
     """Tell of which stamps the two have unlike counts, as tuples (stamp, one, other)."""
     counts = [(stamp, one.count_of(stamp), other.count_of(stamp)) for stamp in all_stamps(one.book())]
     return [(stamp, mine, yours) for stamp, mine, yours in counts if mine != yours]
+
+
+def doubles_many(album):
+    """Tell how many doubles an album has in all."""
+    return sum([double[1] for double in album.doubles()])

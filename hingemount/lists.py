@@ -1,23 +1,25 @@
 """Lists of sets of stamps, and the stamps of a list."""
 
-from hingemount.kinds import is_letters, is_rising, is_whole_within
+from hingemount.kinds import is_letters, is_rising, is_tuple, is_whole_within
 
 HINGED = 0
 WHOLE = 1
 
 
+def is_year(thing):
+    return is_whole_within(thing, 1840, 2100)
+
+
 def is_set(thing):
     """Tell whether a thing is a set: a tuple (land, year, many)."""
-    if not isinstance(thing, tuple) or len(thing) != 3:
+    if not is_tuple(thing, 3, 3):
         return False
     land, year, many = thing
-    return is_letters(land, 1, 8) and is_whole_within(year, 1840, 2100) and is_whole_within(many, 1, 6)
+    return is_letters(land, 1, 8) and is_year(year) and is_whole_within(many, 1, 6)
 
 
 def is_list(thing):
-    if not isinstance(thing, tuple) or not 1 <= len(thing) <= 4:
-        return False
-    if not all([is_set(part) for part in thing]):
+    if not is_tuple(thing, 1, 4) or not all([is_set(part) for part in thing]):
         return False
     # Land and year alone have to rise, for no two sets may share both.
     return is_rising([part[:2] for part in thing])
@@ -27,13 +29,18 @@ def is_set_number(book, thing):
     return is_whole_within(thing, 0, len(book) - 1)
 
 
+def is_place(book, thing):
+    """Tell whether a thing is a stamp's place: a tuple (set, number)."""
+    if not is_tuple(thing, 2, 2):
+        return False
+    at, number = thing
+    return is_set_number(book, at) and is_whole_within(number, 0, book[at][2] - 1)
+
+
 def is_stamp(book, thing):
-    if not isinstance(thing, tuple) or len(thing) != 3:
+    if not is_tuple(thing, 3, 3):
         return False
-    at, number, grade = thing
-    if not is_set_number(book, at):
-        return False
-    return is_whole_within(number, 0, book[at][2] - 1) and is_whole_within(grade, HINGED, WHOLE)
+    return is_place(book, thing[:2]) and is_whole_within(thing[2], HINGED, WHOLE)
 
 
 def all_stamps(book):

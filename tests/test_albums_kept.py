@@ -2,13 +2,7 @@ import unittest
 
 from hingemount.albums import Album
 from hingemount.errors import NoList, NoName, NoNumber, NoStamp, NoStamps, Short
-from tests.things import BOOK, NOTHINGS, ONE
-
-FORTY = int("9" * 40)
-
-
-def state(album):
-    return album.book(), album.called(), album.all_of()
+from tests.things import BOOK, FORTY, NOTHINGS, ONE, state
 
 
 class Made(unittest.TestCase):

@@ -1,7 +1,7 @@
 import inspect
 import unittest
 
-from hingemount import albums, errors, lists
+from hingemount import albums, bundles, deals, errors, exchanges, lists, worths
 
 FUNCTIONS = (
     (lists, "is_list", "(thing)"),
@@ -13,6 +13,20 @@ FUNCTIONS = (
     (albums, "parted", "(album, places)"),
     (albums, "parting", "(one, other)"),
     (errors, "Short", "(by)"),
+    (worths, "worth_of", "(album, prices, stamp, year=2100)"),
+    (worths, "worth_by", "(album, prices, year=2100)"),
+    (deals, "owners_behind", "(owners, deals, many)"),
+    (deals, "fallen", "(owners, deals, stamp)"),
+    (deals, "owners_left", "(owners, deals, stamp)"),
+    (deals, "chain_of", "(owners, deals, stamp, place)"),
+    (deals, "is_chain", "(owners, deals, stamp, place, thing)"),
+    (bundles, "fewest_for", "(album, place, offers)"),
+    (bundles, "makes_whole", "(album, place, offers, thing)"),
+    (exchanges, "is_exchange", "(friends, thing)"),
+    (exchanges, "exchanged", "(friends, exchange)"),
+    (exchanges, "rings_of", "(friends, exchange)"),
+    (exchanges, "gains_by", "(friends, exchange, prices, year=2100)"),
+    (exchanges, "is_fair", "(friends, exchange, prices, year=2100, most=0)"),
 )
 
 METHODS = (

@@ -2,7 +2,7 @@ import copy
 import unittest
 
 from hingemount.albums import Album
-from hingemount.lists import all_stamps, is_list, is_stamp, places_many
+from hingemount.lists import all_stamps, is_list, is_place, is_stamp, places_many
 from tests.things import BOOK, NOTHINGS, ONE
 
 
@@ -122,6 +122,20 @@ class IsStamp(unittest.TestCase):
 
     def test_by_name(self):
         self.assertIs(is_stamp(thing=(1, 0, 1), book=BOOK), True)
+
+
+class IsPlace(unittest.TestCase):
+    """Point 2: a stamp's place."""
+
+    def test_each_place_and_one_beyond(self):
+        for place in ((0, 0), (0, 1), (1, 0), (2, 0), (2, 2)):
+            self.assertIs(is_place(BOOK, place), True, place)
+        for place in ((0, 2), (1, 1), (2, 3), (3, 0), (-1, 0), (0, -1), (0, 10 ** 39)):
+            self.assertIs(is_place(BOOK, place), False, place)
+
+    def test_other_kinds_and_shapes(self):
+        for thing in ((), (0,), (0, 0, 0), [0, 0], (False, 0), (0, True), ("0", 0), (0, None), None, *NOTHINGS):
+            self.assertIs(is_place(BOOK, thing), False, repr(thing)[:200])
 
 
 class AllStamps(unittest.TestCase):

@@ -2,6 +2,7 @@
 
 BOOK = (("aland", 1900, 2), ("aland", 1901, 1), ("bland", 1880, 3))
 ONE = (("x", 1900, 1),)
+FORTY = int("9" * 40)
 
 
 def deep(levels, inner=0):
@@ -11,8 +12,12 @@ def deep(levels, inner=0):
     return thing
 
 
-# None of these is a list, a stamp, a set's number of BOOK, a tuple of stamps or of sets, or a
-# whole number from 1 on.
+def state(album):
+    return album.book(), album.called(), album.all_of()
+
+
+# None of these is a list, a stamp, a set's number of BOOK, a tuple of stamps or of sets, a
+# whole number from 0 on, prices, owners, deals, a chain, offers, places, friends or an exchange.
 NOTHINGS = (
     True,
     False,
