@@ -1,7 +1,7 @@
 """Albums: how many of each stamp of a list there are."""
 
 from hingemount.errors import NoList, NoName, NoNumber, NoSet, NoSets, NoStamp, NoStamps, Short
-from hingemount.kinds import is_letters, is_rising_within, is_whole_from
+from hingemount.kinds import is_letters, is_rising_within, is_tuple, is_whole_from
 from hingemount.lists import HINGED, WHOLE, all_stamps, is_list, is_set_number, is_stamp
 from hingemount.writing import album_rows, in_figures
 
@@ -136,6 +136,23 @@ def parting(one, other):
     return [(stamp, mine, yours) for stamp, mine, yours in counts if mine != yours]
 
 
+def is_albums(thing, fewest, most):
+    """Tell whether a thing is a tuple of so many albums of one list."""
+    if not is_tuple(thing, fewest, most) or not all([isinstance(part, Album) for part in thing]):
+        return False
+    return all([part.book() == thing[0].book() for part in thing])
+
+
+def stamps_many(album):
+    """Tell how many stamps an album has, each as often as it is there."""
+    return sum([many for _, many in album.all_of()])
+
+
 def doubles_many(album):
     """Tell how many doubles an album has in all."""
-    return sum([double[1] for double in album.doubles()])
+    return sum([many for _, many in album.doubles()])
+
+
+def lacked_by(album):
+    """Tell the places of which an album has no stamp, rising."""
+    return [(at, number) for at in range(len(album.book())) for number in album.gaps(at)]

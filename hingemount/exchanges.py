@@ -1,45 +1,37 @@
 """Exchanges: friends give doubles for what they lack, each as many as they get."""
 
-from hingemount.albums import Album
+from hingemount.albums import is_albums, lacked_by
 from hingemount.errors import NoExchange, NoFriends, NoNumber
 from hingemount.kinds import is_each_once, is_rising, is_tuple, is_whole, is_whole_from
 from hingemount.lists import is_stamp
 from hingemount.worths import as_worth, check_prices, check_year, halves_in
 
 
-def is_friends(thing):
-    if not is_tuple(thing, 2, 4) or not all([isinstance(part, Album) for part in thing]):
-        return False
-    return all([part.book() == thing[0].book() for part in thing])
-
-
 def check_friends(friends):
-    if not is_friends(friends):
+    if not is_albums(friends, 2, 4):
         raise NoFriends("no tuple of two to four albums of one list")
 
 
-def lacked_by(friend):
-    """Tell the places of which an album has no stamp, rising."""
-    return [(at, number) for at in range(len(friend.book())) for number in friend.gaps(at)]
+def doubles_by(friends):
+    """Tell a dict of all doubles (friend, stamp), rising, with how many there are."""
+    return {(at, stamp): many for at, friend in enumerate(friends) for stamp, many in friend.doubles()}
 
 
-def spare_of(friend):
-    """Tell the stamps among an album's doubles, rising."""
-    return [double[0] for double in friend.doubles()]
+def gaps_by(friends):
+    """Tell all gaps (friend, place), rising."""
+    return [(at, place) for at, friend in enumerate(friends) for place in lacked_by(friend)]
 
 
 def all_gives(friends):
     """Tell all gives that there can be, rising."""
-    spare = [spare_of(friend) for friend in friends]
-    lacked = [lacked_by(friend) for friend in friends]
+    gaps = gaps_by(friends)
     # Whoever has a stamp among their doubles lacks it not, so giver and taker are never one.
-    return [
+    return sorted([
         (giver, taker, stamp)
-        for giver, stamps in enumerate(spare)
-        for taker, places in enumerate(lacked)
-        for stamp in stamps
-        if stamp[:2] in places
-    ]
+        for giver, stamp in doubles_by(friends)
+        for taker, place in gaps
+        if place == stamp[:2]
+    ])
 
 
 def looks_like_give(book, thing):
@@ -61,7 +53,7 @@ def is_gives(friends, thing):
 
 def is_within_doubles(friends, gives):
     """Tell whether nobody gives a stamp oftener than it is among their doubles."""
-    left = {(at, stamp): many for at, friend in enumerate(friends) for stamp, many in friend.doubles()}
+    left = doubles_by(friends)
     for giver, _, stamp in gives:
         left[giver, stamp] -= 1
     return all([many >= 0 for many in left.values()])

@@ -1,7 +1,7 @@
 import inspect
 import unittest
 
-from hingemount import albums, bundles, deals, errors, exchanges, lists, worths
+from hingemount import albums, bundles, deals, desk, errors, exchanges, lists, papers, sorting, texts, worths
 
 FUNCTIONS = (
     (lists, "is_list", "(thing)"),
@@ -27,6 +27,14 @@ FUNCTIONS = (
     (exchanges, "rings_of", "(friends, exchange)"),
     (exchanges, "gains_by", "(friends, exchange, prices, year=2100)"),
     (exchanges, "is_fair", "(friends, exchange, prices, year=2100, most=0)"),
+    (papers, "most_gaps", "(friends)"),
+    (papers, "is_paper", "(friends, thing)"),
+    (papers, "shown_by", "(friends, paper)"),
+    (sorting, "sorted_by", "(word, albums, prices=None, back=False)"),
+    (texts, "list_text", "(book)"),
+    (texts, "album_text", "(album)"),
+    (texts, "album_read", "(text)"),
+    (desk, "Desk", "()"),
 )
 
 METHODS = (
@@ -57,6 +65,7 @@ class Interface(unittest.TestCase):
             self.assertEqual(str(inspect.signature(vars(albums.Album)[name])), arguments, name)
         for name in ("__init__", "__len__", "__eq__", "__repr__", "__str__"):
             self.assertIn(name, vars(albums.Album))
+        self.assertEqual(str(inspect.signature(vars(desk.Desk)["say"])), "(self, row)")
 
 
 if __name__ == "__main__":

@@ -16,8 +16,18 @@ def state(album):
     return album.book(), album.called(), album.all_of()
 
 
+def otherwise(text, signs):
+    """All texts with one sign less, one more or one otherwise than this one."""
+    for at in range(len(text) + 1):
+        yield text[:at] + text[at + 1:]
+        for sign in signs:
+            yield text[:at] + sign + text[at:]
+            yield text[:at] + sign + text[at + 1:]
+
+
 # None of these is a list, a stamp, a set's number of BOOK, a tuple of stamps or of sets, a
-# whole number from 0 on, prices, owners, deals, a chain, offers, places, friends or an exchange.
+# whole number from 0 on, prices, owners, deals, a chain, offers, places, friends, an exchange,
+# a paper, a tuple of albums, a word to sort by, a text of an album or a row for a desk.
 NOTHINGS = (
     True,
     False,
